@@ -1,0 +1,1 @@
+"""Cells that refer to one another."""
