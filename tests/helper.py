@@ -38,6 +38,34 @@ def unset(h, i):
     return [7, h, i]
 
 
+def kind(h, i):
+    return [8, h, i]
+
+
+def told(h, i):
+    return [9, h, i]
+
+
+def held(h, i):
+    return [10, h, i]
+
+
+def fields(h):
+    return [11, h]
+
+
+def count():
+    return [12]
+
+
+def alike(h, k):
+    return [13, h, k]
+
+
+def copy(h):
+    return [14, h]
+
+
 def line(calls):
     """The calls as the one list that is handed in, clear ahead of them."""
     flat = clear()
@@ -58,18 +86,53 @@ def said(*calls):
     return found[3::2]
 
 
-def row_store(count, fields, ring=False):
-    """A store with cells 1 to count, each holding the next in field 0, root 0 the first of them."""
+def grown(units):
+    """Calls by which root 0 leads to just this many units, and the cell that it has then.
+
+    Each round copies all that is there and makes a cell that holds both, from the cell 1 on, which
+    has no fields. The cells that are led to are 1 to this one.
+    """
+    rounds = []
+    while units > 1:
+        # By such rounds there is no way from one unit to 0, 2, 3, 4 or 12.
+        sizes = [size for size in range(2 + (units + 1) % 2, 9, 2) if (units - 1 - size) // 2 not in (0, 2, 3, 4, 12)]
+        rounds.insert(0, sizes[0])
+        units = (units - 1 - sizes[0]) // 2
+    calls, top = [make(0), root(0, 1)], 1
+    for size in rounds:
+        calls += [copy(top), root(1, 2 * top), make(size), cell(2 * top + 1, 0, top),
+                  cell(2 * top + 1, 1, 2 * top), root(0, 2 * top + 1)]
+        top = 2 * top + 1
+    return calls + [root(1, 0)], top
+
+
+def filled(units):
+    """Calls by which roots 0, 1 and 2 lead to just this many units, and the newest cell then."""
+    calls, top = grown(units // 2)
+    calls += [copy(top), root(1, 2 * top)]
+    if units % 2 == 0:
+        return calls, 2 * top
+    return calls + [make(0), root(2, 2 * top + 1)], 2 * top + 1
+
+
+def row_store(length, size, ring=False):
+    """A store with cells 1 to length, each holding the next in field 0, root 0 the first of them."""
     store = Store()
-    for handle in range(1, count + 1):
-        store.cells[handle] = [NOTHING] * fields
-    for handle in range(1, count):
+    add_row(store, 1, length, size, ring)
+    return store
+
+
+def add_row(store, first, length, size, ring=False):
+    """Put in cells from first on, each holding the next in field 0; a root has the first of them."""
+    behind = first + length
+    for handle in range(first, behind):
+        store.cells[handle] = [NOTHING] * size
+    for handle in range(first, behind - 1):
         store.cells[handle][0] = (HOLDS_CELL, handle + 1)
     if ring:
-        store.cells[count][0] = (HOLDS_CELL, 1)
-    store.roots[0] = 1
-    store.newest = count
-    return store
+        store.cells[behind - 1][0] = (HOLDS_CELL, first)
+    store.roots[store.roots.index(0)] = first
+    store.newest = behind - 1
 
 
 def filled_store(units):
@@ -89,33 +152,38 @@ def state(store):
 class Model:
     """The document's words done slowly: cells stay for ever, what is led to is found anew each time."""
 
-    def __init__(self):
+    def __init__(self, room=65536):
+        self.room = room
         self.do_clear()
 
     def do_clear(self):
         self.fields_of, self.root_of, self.made_last, self.given = {}, {}, None, 0
         return 0
 
-    def led(self, with_last=True):
-        found = set(self.root_of.values())
-        if with_last and self.made_last is not None:
-            found.add(self.made_last)
+    def reach(self, starts):
+        found = set(starts)
         while True:
             more = {k for h in found for what, k in self.fields_of[h].values() if what == "cell"}
             if more <= found:
                 return found
             found |= more
 
-    def do_make(self, fields):
-        if fields not in range(9):
+    def led(self):
+        last = [] if self.made_last is None else [self.made_last]
+        return self.reach([*self.root_of.values(), *last])
+
+    def taken(self, handles):
+        return sum(1 + len(self.fields_of[h]) for h in handles)
+
+    def do_make(self, size):
+        if size not in range(9):
             return -2
-        taken = sum(1 + len(self.fields_of[h]) for h in self.led(with_last=False))
         self.made_last = None
-        if taken + 1 + fields > 65536:
+        if self.taken(self.led()) + 1 + size > self.room:
             return -3
         self.given += 1
         self.made_last = self.given
-        self.fields_of[self.given] = {i: ("nothing", None) for i in range(fields)}
+        self.fields_of[self.given] = {i: ("nothing", None) for i in range(size)}
         return self.given
 
     def do_root(self, r, h):
@@ -150,15 +218,75 @@ class Model:
     def do_unset(self, h, i):
         return self.change(h, i, ("nothing", None))
 
+    def do_kind(self, h, i):
+        if h not in self.led():
+            return -1
+        if i not in self.fields_of[h]:
+            return -2
+        return ["nothing", "number", "cell"].index(self.fields_of[h][i][0])
+
+    def find(self, h, i, wanted):
+        if h not in self.led():
+            return -1
+        what, value = self.fields_of[h].get(i, ("nothing", None))
+        return value if what == wanted else 0
+
+    def do_told(self, h, i):
+        return self.find(h, i, "number")
+
+    def do_held(self, h, i):
+        return self.find(h, i, "cell")
+
+    def do_fields(self, h):
+        return len(self.fields_of[h]) if h in self.led() else -1
+
+    def do_count(self):
+        return len(self.reach(self.root_of.values()))
+
+    def drawn(self, h):
+        """The cell with all that it leads to, each cell told by when it is first met."""
+        met = [h]
+        for one in met:
+            for what, k in self.fields_of[one].values():
+                if what == "cell" and k not in met:
+                    met.append(k)
+        return [[(what, met.index(value) if what == "cell" else value)
+                 for what, value in self.fields_of[one].values()] for one in met]
+
+    def do_alike(self, h, k):
+        if not {h, k} <= self.led():
+            return -1
+        return int(self.drawn(h) == self.drawn(k))
+
+    def do_copy(self, h):
+        if h not in self.led():
+            return -1
+        part = self.reach([h])
+        if self.taken(self.reach([*self.root_of.values(), h])) + self.taken(part) > self.room:
+            self.made_last = h if h == self.made_last else None
+            return -3
+        new = {old: self.given + place for place, old in enumerate(sorted(part), 1)}
+        for old in part:
+            self.fields_of[new[old]] = {i: (what, new[value] if what == "cell" else value)
+                                        for i, (what, value) in self.fields_of[old].items()}
+        self.given += len(part)
+        self.made_last = new[h]
+        return new[h]
+
     def do(self, call):
-        names = ["clear", "make", "root", "rooted", "number", "cell", "unset"]
+        names = ["clear", "make", "root", "rooted", "number", "cell", "unset",
+                 "kind", "told", "held", "fields", "count", "alike", "copy"]
         return getattr(self, "do_" + names[call[0] - 1])(*call[1:])
 
 
-def random_line(seed):
-    """399 calls, the same for the same seed, and what the model answers to them."""
+# How often each call comes in a random line, from clear on.
+OFTEN = [0.2, 30, 50, 6, 12, 110, 5, 12, 12, 12, 8, 12, 40, 35]
+
+
+def random_line(seed, room=65536):
+    """399 calls, the same for the same seed, and what the model with this room answers to them."""
     source = random.Random(seed)
-    model = Model()
+    model = Model(room)
 
     def handle():
         led = sorted(model.led())
@@ -167,17 +295,20 @@ def random_line(seed):
         return source.choice([0, INT_HIGH, source.randint(1, model.given + 1)])
 
     def place():
-        return source.choice([-1, 0, 0, 0, 1, 1, 2, 3])
+        return source.choice([-1, 0, 0, 0, 0, 0, 1, 1, 1, 1, 2, 2, 3, 8])
 
     def one_call():
-        r = source.choice([-1, 0, 1, 2, 3, 255, 256])
-        which = source.choices(range(7), [0.5, 40, 20, 10, 10, 90, 10])[0]
-        choices = [clear(), make(source.choice([-1, 1, 2, 2, 3, 3, 8, 9])),
-                   root(r, source.choice([0, handle(), handle(), handle()])), rooted(r),
-                   number(handle(), place(), source.choice([WIDE_LOW, -1, 0, 1, WIDE_HIGH])),
-                   cell(handle(), place(), source.choice([0, handle(), handle(), handle(), handle()])),
-                   unset(handle(), place())]
-        return choices[which]
+        r = source.choice([-1, 0, 1, 2, 3, 4, 5, 6, 255, 256])
+        which = source.choices(range(14), OFTEN)[0]
+        choices = [clear, lambda: make(source.choice([-1, 0, 1, 2, 2, 3, 3, 3, 3, 4, 8, 9])),
+                   lambda: root(r, source.choice([0, handle(), handle()] + [model.made_last or 0] * 4)),
+                   lambda: rooted(r),
+                   lambda: number(handle(), place(), source.choice([WIDE_LOW, -1, 0, 1, 2, WIDE_HIGH])),
+                   lambda: cell(handle(), place(), source.choice([0, handle(), handle(), handle(), handle()])),
+                   lambda: unset(handle(), place()), lambda: kind(handle(), place()),
+                   lambda: told(handle(), place()), lambda: held(handle(), place()),
+                   lambda: fields(handle()), count, lambda: alike(handle(), handle()), lambda: copy(handle())]
+        return choices[which]()
 
     calls, expected = [], []
     while len(calls) < 399:

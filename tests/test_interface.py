@@ -9,12 +9,15 @@ import unittest
 
 import ringcells
 from ringcells.store import answers
-from tests.helper import cell, clear, line, make, number, root, rooted, said, unset
+from tests.helper import (alike, cell, clear, copy, count, fields, held, kind, line, make, number, random_line, root,
+                          rooted, said, told, unset)
 
 SOURCES = sorted(pathlib.Path(ringcells.__file__).parent.glob("*.py"))
 CALLS = [make(2), root(7, 1), make(9), number(1, 1, -5), make(1), cell(1, 0, 2), unset(1, 1),
-         rooted(7), rooted(300), root(7, 0), unset(1, 0), make(0)]
-SAID = [1, 0, -2, 0, 2, 0, 0, 1, -2, 0, -1, 3]
+         rooted(7), rooted(300), number(2, 0, -1), kind(1, 0), kind(2, 0), kind(1, 2), told(2, 0), told(9, 0),
+         held(1, 0), fields(1), count(), copy(1), alike(1, 3), alike(3, 2), alike(9, 3), held(3, 0), root(7, 0),
+         unset(1, 0), copy(1), count(), make(0)]
+SAID = [1, 0, -2, 0, 2, 0, 0, 1, -2, 0, 2, 1, -2, -1, -1, 2, 2, 2, 3, 1, 0, -1, 4, 0, -1, -1, 0, 5]
 
 
 class Untouchable(list):
@@ -33,10 +36,17 @@ class Interface(unittest.TestCase):
         self.assertEqual(answers([1, 2, 3, 3, 5, 1, 4, 5, 2, 9]), [1, 0, 1, 1, 1, 0, 1, 1, 1, -2])
 
     def test_each_call_takes_its_own_count_of_numbers(self):
+        self.assertEqual({call[0] for call in CALLS}, set(range(2, 15)))
         self.assertEqual(said(*CALLS), SAID)
+
+    def test_each_call_by_its_number(self):
+        self.assertEqual(answers([1, 2, 2, 3, 0, 1, 5, 1, 0, -7, 6, 1, 1, 1, 8, 1, 0, 9, 1, 0, 10, 1, 1, 11, 1, 12,
+                                  13, 1, 1, 14, 1, 7, 1, 0, 4, 0]),
+                         [1, 0, 1, 1, 1, 0, 1, 0, 1, 0, 1, 1, 1, -7, 1, 1, 1, 2, 1, 1, 1, 1, 1, 2, 1, 0, 1, 1])
 
     def test_a_line_of_400_calls(self):
         self.assertEqual(said(*[make(0)] * 399), list(range(1, 400)))
+        self.assertEqual(said(make(0), *[copy(h) for h in range(1, 399)]), list(range(1, 400)))
 
     def test_answers_are_a_list_of_ints(self):
         found = answers(line(CALLS))
@@ -58,6 +68,13 @@ class Interface(unittest.TestCase):
         kept = list(first)
         first.clear()
         self.assertEqual(answers(line(CALLS)), kept)
+
+    def test_a_second_time_answers_as_the_first(self):
+        for seed in range(20):
+            handed = line(random_line(seed)[0])
+            before = list(handed)
+            self.assertEqual(answers(handed), answers(handed))
+            self.assertEqual(handed, before)
 
     def test_a_list_that_clears_again(self):
         self.assertEqual(said(*CALLS, clear(), *CALLS), SAID + [0] + SAID)
